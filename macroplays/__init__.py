@@ -1,0 +1,1 @@
+"""Macros: an editor whose commands are recorded and played again."""
