@@ -36,12 +36,39 @@ def answer_record(session, reader):
     return session.record(slot, more)
 
 
+def answer_stop(session, reader):
+    return session.stop_recording()
+
+
+def answer_shows(session, reader):
+    return session.shows()
+
+
+def answer_undo(session, reader):
+    return session.undo()
+
+
+def answer_would(session, reader):
+    numbers = reader.take_row()
+    return session.would(numbers)
+
+
+def answer_period(session, reader):
+    slot = reader.take()
+    return session.period(slot)
+
+
 CALLS = {
     0: answer_text,
     1: answer_do,
     2: answer_set,
     3: answer_get,
     4: answer_record,
+    5: answer_stop,
+    6: answer_shows,
+    7: answer_undo,
+    8: answer_would,
+    9: answer_period,
 }
 
 

@@ -1,4 +1,4 @@
-"""Doing a row of commands, with all that its registers play."""
+"""Doing a row of commands, or a row of playings, with all that the registers play."""
 
 from macroplays.plain import do_plain
 from macroplays.refusals import NeverStops, TooMuch
@@ -85,6 +85,16 @@ class Player:
             seen[state] = True
             before = state
         return True
+
+    def find_period(self, slot):
+        """Plays again and again till one fails (1, how many were done), or it comes round (0, where, how soon)."""
+        seen = {self.editor.state(): 0}
+        while self.play_next(slot, 0, seen):
+            state = self.editor.state()
+            if state in seen:
+                return [0, seen[state], len(seen) - seen[state]]
+            seen[state] = len(seen)
+        return [1, len(seen) - 1]
 
 
 def state_behind(times, seen, first):

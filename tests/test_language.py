@@ -23,8 +23,8 @@ OWN_METHODS = set("""append clear copy count endswith extend find get index inse
 NEVER_NAMES = set("""register mro elements open input version_info with_traceback add_note attrgetter breakpoint
     builtins compile copyright credits delattr dir eval exec exit gc getattr globals hasattr help id importlib license
     locals methodcaller os quit setattr super type vars sys""".split())
-NEVER_WORDS = re.compile(r"\b(type|typing|typing_extensions|enum|Enum|IntEnum|StrEnum|Flag|IntFlag|Generic|Protocol|ABC|"
-                         r"ABCMeta|namedtuple|NamedTuple|TypedDict|TYPE_CHECKING|abstractmethod)\b|"
+NEVER_WORDS = re.compile(r"\b(type|typing|typing_extensions|enum|Enum|IntEnum|StrEnum|Flag|IntFlag|Generic|Protocol|"
+                         r"ABC|ABCMeta|namedtuple|NamedTuple|TypedDict|TYPE_CHECKING|abstractmethod)\b|"
                          r"dataclass|overload|contextmanager")
 SPECIAL_METHODS = {"__init__", "__eq__", "__repr__", "__str__", "__len__"}
 TAKEN = set(dir(str) + dir(int) + dir(list) + dir(dict) + dir(set) + dir(bytes) + dir(tuple))
@@ -150,6 +150,24 @@ class Language(unittest.TestCase):
                 self.assertIn(node.id, OWN_NAMES, node.lineno)
         for function in nodes(tree, ast.FunctionDef):
             self.assertNotIn(function.name, NEVER_NAMES)
+
+    @each_file
+    def test_what_the_top_keeps_is_only_read(self, name, tree):
+        kept = [node.targets[0].id for node in tree.body
+                if isinstance(node, ast.Assign) and isinstance(node.value, (ast.List, ast.Tuple, ast.Dict))]
+        read = [node.value for node in nodes(tree, ast.Subscript) if isinstance(node.ctx, ast.Load)]
+        read += [node for compare in nodes(tree, ast.Compare) for node in compare.comparators]
+        for node in nodes(tree, ast.Name):
+            if node.id in kept and isinstance(node.ctx, ast.Load):
+                self.assertIn(node, read, node.lineno)
+
+    @each_file
+    def test_errors(self, name, tree):
+        for handler in nodes(tree, ast.ExceptHandler):
+            self.assertIsInstance(handler.type, ast.Name, handler.lineno)
+            self.assertIn(handler.type.id, names_at_top(self.trees["refusals.py"]) + ["KeyError"], handler.lineno)
+        for node in nodes(tree, ast.Raise):
+            self.assertIsInstance(node.exc, ast.Call, node.lineno)
 
     def test_attributes(self):
         methods, values = set(), set()

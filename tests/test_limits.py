@@ -2,32 +2,10 @@
 
 import unittest
 
-from tests.helper import MOST, ask, do, fill, last, text, text_after
+from tests.helper import (COUNT_OR_FAIL, COUNT_OR_STAY, COUNT_ROUND, MOST, TURN, ask, bits, counter, do, fill, last,
+                          text, text_after)
 
-A, B, P, X, Y, Z, ZERO, ONE = b"abpxyz01"
-
-# The registers of a counter whose bits stand in the text, the least first.
-COUNT_OR_FAIL, CLEAR_ONES, COUNT_ROUND, SET_ONE, MARK, COUNT_OR_STAY, COUNT_IF_ROOM, TURN = range(8)
-COUNTER = [
-    fill(COUNT_OR_FAIL, (6,), (15, CLEAR_ONES), (9, ZERO), (3,), (0, ONE), (6,)),
-    fill(CLEAR_ONES, (9, ONE), (3,), (0, ZERO)),
-    # The bits go round; the mark behind them, x, becomes y when they do so first.
-    fill(COUNT_ROUND, (6,), (15, CLEAR_ONES), (15, SET_ONE), (15, MARK), (6,)),
-    fill(SET_ONE, (9, ZERO), (3,), (0, ONE), (7,)),
-    fill(MARK, (9, X), (3,), (0, Y)),
-    # A byte p stands ahead of the bits; when they are all set, nothing changes.
-    fill(COUNT_OR_STAY, (6,), (15, COUNT_IF_ROOM), (6,)),
-    fill(COUNT_IF_ROOM, (9, P), (4, ZERO), (6,), (2,), (15, CLEAR_ONES), (3,), (0, ONE), (7,)),
-    fill(TURN, (8,)),
-]
-
-
-def bits(value, length):
-    return bytes(ONE if value >> place & 1 else ZERO for place in range(length))
-
-
-def counter(value, length=10, ahead=b"", behind=b""):
-    return COUNTER + [text(0, ahead + bits(value, length) + behind)]
+A, B = b"ab"
 
 
 class ARowOfPlayings(unittest.TestCase):
